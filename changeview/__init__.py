@@ -1,0 +1,1 @@
+"""Changeview: answers that are kept by differences."""
