@@ -21,6 +21,22 @@ INTERFACE = {
     "heaps": {
         "added": ["one", "other"], "turned": ["heap"], "heaped": ["pairs"], "listed": ["heap"],
     },
+    "works": {
+        "within": ["heap", "column", "low", "high"], "columns": ["heap", "picked"],
+        "meet": ["one", "other", "pairs"], "once": ["heap"],
+        "sums": ["heap", "keys", "column"], "reach": ["heap"],
+    },
+    "views": {"width_of": ["view", "widths"], "answered": ["view", "heaps"]},
+    "keeper": {"Keeper": None},
+}
+
+# What the interface lists of a class: its own arguments, and each method with its arguments.
+CLASSES = {
+    ("keeper", "Keeper"): {
+        "__init__": ["self", "widths"], "put": ["self", "view"],
+        "change": ["self", "table", "pairs"], "answer": ["self", "number"],
+        "table": ["self", "table"],
+    },
 }
 
 # No clock, chance, files or network can be reached through these.
@@ -83,6 +99,15 @@ class Interface(unittest.TestCase):
                     else:
                         told = inspect.signature(getattr(module, name))
                         self.assertEqual(list(told.parameters), arguments)
+
+    def test_each_class_has_its_methods_in_its_own_body(self):
+        for (file, name), methods in CLASSES.items():
+            owner = getattr(importlib.import_module("changeview." + file), name)
+            for method, arguments in methods.items():
+                with self.subTest(file=file, name=name, method=method):
+                    self.assertIn(method, vars(owner))
+                    told = inspect.signature(vars(owner)[method])
+                    self.assertEqual(list(told.parameters), arguments)
 
 
 class Language(unittest.TestCase):
