@@ -1,5 +1,6 @@
 """Views: their widths, which of them are let by, and their answers, nested."""
 
+import collections
 import copy
 import itertools
 import unittest
@@ -314,68 +315,153 @@ class Answers(unittest.TestCase):
         self.assert_answer(view, {(1, 2): 2 ** 20}, [{}, {(1, 2): 1}])
 
 
-class Told:
-    """Views by their words, in another way: how often one row lies in an answer."""
+def told(view, heaps):
+    """The answer of a view, read off the words of point 4 one by one, with counts of nought in it."""
+    return globals()["told_" + view[0]](*view[1:], heaps)
 
-    def __init__(self, heaps, span):
-        self.heaps = heaps
-        self.span = span
 
-    def heap(self, view, width):
-        rows = itertools.product(self.span, repeat=width)
-        counts = {row: self.count(view, row) for row in rows}
-        return {row: count for row, count in counts.items() if count != 0}
+def told_table(number, heaps):
+    return heaps[number]
 
-    def count(self, view, row):
-        return getattr(self, view[0])(row, *view[1:])
 
-    def table(self, row, number):
-        return self.heaps[number].get(row, 0)
+def told_within(view, column, low, high, heaps):
+    answer = dict(told(view, heaps))
+    for row in list(answer):
+        if low is not None and row[column] < low or high is not None and row[column] > high:
+            del answer[row]
+    return answer
 
-    def within(self, row, view, column, low, high):
-        low = row[column] if low is None else low
-        high = row[column] if high is None else high
-        return self.count(view, row) if low <= row[column] <= high else 0
 
-    def columns(self, row, view, picked):
-        wholes = self.heap(view, 2)
-        return sum(wholes[whole] for whole in wholes if tuple(whole[c] for c in picked) == row)
+def told_columns(view, picked, heaps):
+    answer = collections.Counter()
+    for row, count in told(view, heaps).items():
+        answer[tuple(row[column] for column in picked)] += count
+    return answer
 
-    def both(self, row, view, other):
-        return self.count(view, row) + self.count(other, row)
 
-    def less(self, row, view, other):
-        return self.count(view, row) - self.count(other, row)
+def told_both(view, other, heaps):
+    one, two = told(view, heaps), told(other, heaps)
+    return {row: one.get(row, 0) + two.get(row, 0) for row in set(one) | set(two)}
 
-    def once(self, row, view):
-        return 1 if self.count(view, row) > 0 else 0
+
+def told_less(view, other, heaps):
+    one, two = told(view, heaps), told(other, heaps)
+    return {row: one.get(row, 0) - two.get(row, 0) for row in set(one) | set(two)}
+
+
+def told_meet(view, other, pairs, heaps):
+    answer = {}
+    for row, count in told(view, heaps).items():
+        for behind, times in told(other, heaps).items():
+            if all(row[c] == behind[d] for c, d in pairs):
+                answer[row + behind] = count * times
+    return answer
+
+
+def told_once(view, heaps):
+    return {row: 1 for row, count in told(view, heaps).items() if count > 0}
+
+
+def told_sums(view, keys, column, heaps):
+    groups = collections.defaultdict(list)
+    for row, count in told(view, heaps).items():
+        if count != 0:
+            groups[tuple(row[key] for key in keys)].append((count, row[column] * count))
+    return {
+        group + (sum(count for count, _ in parts), sum(part for _, part in parts)): 1
+        for group, parts in groups.items()
+    }
+
+
+def told_reach(view, heaps):
+    ways = {row for row, count in told(view, heaps).items() if count > 0}
+    while True:
+        further = {(a, d) for a, b in ways for c, d in ways if b == c} - ways
+        if not further:
+            return {way: 1 for way in ways}
+        ways |= further
+
+
+class Views:
+    """Nested views over tables of these widths that look like chance, the same each time."""
+
+    def __init__(self, seed, widths):
+        self.state = seed
+        self.widths = widths
+
+    def below(self, many):
+        self.state = (self.state * 6364136223846793005 + 1442695040888963407) % 2 ** 64
+        return (self.state >> 33) % many
+
+    def picked(self, width, many):
+        return tuple(self.below(width) for _ in range(many))
+
+    def heap(self, width):
+        heap = {self.picked(3, width): self.below(5) - 2 for _ in range(6)}
+        return {row: count for row, count in heap.items() if count != 0}
+
+    def next(self, depth):
+        """A view nested so deep at most, and its width."""
+        if depth == 0:
+            number = self.below(len(self.widths))
+            return ("table", number), self.widths[number]
+        view, width = self.next(depth - 1)
+        words = ("within", "columns", "both", "less", "meet", "once", "sums", "reach")
+        return getattr(self, words[self.below(8)])(view, width, depth)
+
+    def narrowed(self, view, width, many):
+        """The view with so many columns of it."""
+        return ("columns", view, self.picked(width, many))
+
+    def within(self, view, width, _):
+        ends = (None, 0, 1, 2)
+        return ("within", view, self.below(width), ends[self.below(4)], ends[self.below(4)]), width
+
+    def columns(self, view, width, _):
+        many = 1 + self.below(3)
+        return self.narrowed(view, width, many), many
+
+    def both(self, view, width, depth, word="both"):
+        other = self.next(self.below(depth))
+        return (word, view, self.narrowed(*other, width)), width
+
+    def less(self, view, width, depth):
+        return self.both(view, width, depth, "less")
+
+    def meet(self, view, width, depth):
+        other, many = self.next(self.below(depth))
+        if width + many > 6:
+            view, other, width, many = (
+                self.narrowed(view, width, 2), self.narrowed(other, many, 2), 2, 2)
+        pairs = tuple(zip(self.picked(width, 2), self.picked(many, self.below(3))))
+        return ("meet", view, other, pairs), width + many
+
+    def once(self, view, width, _):
+        return ("once", view), width
+
+    def sums(self, view, width, _):
+        many = self.below(3)
+        return ("sums", view, self.picked(width, many), self.below(width)), many + 2
+
+    def reach(self, view, width, _):
+        return ("reach", self.narrowed(view, width, 2)), 2
 
 
 class ByTheWords(unittest.TestCase):
-    def test_two_words_one_in_the_other(self):
-        """Every word that keeps rows two wide within every other such one."""
-        span = (0, 1, 2)
-        counts = (2, -1, 0, 1, -2, 3, 0, 1, -1)
-        rows = list(itertools.product(span, repeat=2))
-        heaps = [dict(zip(rows, counts)), dict(zip(rows, counts[4:] + counts[:4]))]
-        heaps = [{row: count for row, count in heap.items() if count != 0} for heap in heaps]
-        told = Told(heaps, span)
-        one, other = ("table", 0), ("table", 1)
-
-        def words(view):
-            yield ("within", view, 0, 1, None)
-            yield ("within", view, 1, None, 1)
-            yield ("columns", view, (1, 0))
-            yield ("columns", view, (1, 1))
-            yield ("both", view, other)
-            yield ("less", other, view)
-            yield ("once", view)
-
-        for inner in words(one):
-            for view in words(inner):
-                with self.subTest(view=view):
-                    self.assertEqual(width_of(view, [2, 2]), 2)
-                    self.assertEqual(answered(view, heaps), told.heap(view, 2))
+    def test_nested_views_over_heaps_with_counts_below_nought(self):
+        met = collections.Counter()
+        for seed in range(1500):
+            source = Views(seed, [1 + seed % 3, 2, 1 + seed % 2])
+            heaps = [source.heap(width) for width in source.widths]
+            view, width = source.next(1 + seed % 5)
+            with self.subTest(view=view, heaps=heaps):
+                self.assertEqual(width_of(view, source.widths), width)
+                wanted = {row: count for row, count in told(view, heaps).items() if count != 0}
+                self.assertEqual(answered(view, heaps), wanted)
+                met[view[0]] += bool(wanted)
+        # Each word stood outermost, over heaps that gave it something to tell.
+        self.assertEqual(len(met), 8)
+        self.assertGreater(min(met.values()), 20)
 
 
 VIEWS = (
